@@ -1,11 +1,15 @@
 """The calls: each is read from the list, answered, and its answer put behind those before it."""
 
+from endsolver.finding import first_with, longest_of, numbers_with
 from endsolver.lines import best_line, best_move
-from endsolver.moving import moves_of, row_after
+from endsolver.matches import Match, play_match
+from endsolver.moving import DRAW, LOSS, WIN, moves_of, row_after
 from endsolver.positions import check_right, number_of, right_row_of
 from endsolver.reading import read_game
-from endsolver.refusals import NoGame, NoMove, Refusal
+from endsolver.refusals import NoGame, NoMove, NoOutcome, NoSide, Refusal
 from endsolver.solving import Solving, check_solved, do_rounds, value_of
+from endsolver.tables import first_wrong, table_of
+from endsolver.turning import least_turn, turned_row, turns_sum
 
 GAME = 1
 
@@ -20,6 +24,14 @@ CALL_FORMS = {
     7: (1, 1),
     8: (0, 1),
     9: (0, 1),
+    10: (2, 0),
+    11: (3, 0),
+    12: (1, 0),
+    13: (0, 0),
+    14: (0, 1),
+    15: (0, 0),
+    16: (0, 1),
+    17: (2, 2),
 }
 
 
@@ -126,6 +138,63 @@ def tell_line(desk, call):
     return counted(best_line(desk.solving, row))
 
 
+def tell_many(desk, call):
+    """How many positions have a value."""
+    check_outcome(call.numbers[0], (DRAW, WIN, LOSS))
+    check_solved(desk.solving)
+    return [len(numbers_with(desk.solving, call.numbers[0], call.numbers[1]))]
+
+
+def tell_next(desk, call):
+    """The first position from a number on that has a value."""
+    check_outcome(call.numbers[1], (DRAW, WIN, LOSS))
+    check_solved(desk.solving)
+    return [first_with(desk.solving, call.numbers[0], call.numbers[1], call.numbers[2])]
+
+
+def tell_longest(desk, call):
+    """In how many moves the longest win or loss is."""
+    check_outcome(call.numbers[0], (WIN, LOSS))
+    check_solved(desk.solving)
+    return [longest_of(desk.solving, call.numbers[0])]
+
+
+def tell_turns(desk, call):
+    """The turns that keep the game."""
+    return [turns_sum(desk.solving.game)]
+
+
+def tell_least(desk, call):
+    """The turn that carries a position to the least number, and where to."""
+    row = right_row(desk, call)
+    turn = least_turn(desk.solving.game, row)
+    return [turn] + counted(turned_row(turn, row))
+
+
+def tell_table(desk, call):
+    """The game's table."""
+    check_solved(desk.solving)
+    return counted(table_of(desk.solving))
+
+
+def tell_judge(desk, call):
+    """Whether a table is the game's, or where it is wrong first."""
+    check_solved(desk.solving)
+    wrong = first_wrong(desk.solving, call.rows[0])
+    return [0] if wrong is None else [1, wrong]
+
+
+def tell_match(desk, call):
+    """What a match comes to, how many moves were made, and its last position."""
+    row = right_row(desk, call)
+    if call.numbers[0] > 1:
+        raise NoSide()
+    check_solved(desk.solving)
+    played = Match(call.numbers[0], row, call.rows[1])
+    play_match(desk.solving, played, call.numbers[1])
+    return [played.result, played.made] + counted(played.row)
+
+
 TELLERS = {
     1: tell_game,
     2: tell_solve,
@@ -136,6 +205,14 @@ TELLERS = {
     7: tell_play,
     8: tell_best,
     9: tell_line,
+    10: tell_many,
+    11: tell_next,
+    12: tell_longest,
+    13: tell_turns,
+    14: tell_least,
+    15: tell_table,
+    16: tell_judge,
+    17: tell_match,
 }
 
 
@@ -144,6 +221,12 @@ def right_row(desk, call):
     row = call.rows[0]
     check_right(desk.solving.game, row)
     return row
+
+
+def check_outcome(outcome, outcomes):
+    """Refuses what is none of the outcomes that may be asked for."""
+    if outcome not in outcomes:
+        raise NoOutcome()
 
 
 def counted(row):

@@ -50,3 +50,8 @@ def right_row_of(game, number):
     row = row_of(game, number)
     check_right(game, row)
     return row
+
+
+def right_numbers(game):
+    """The numbers of all right positions, the least first."""
+    return [number for number in range(game.total) if is_right(game, row_of(game, number))]

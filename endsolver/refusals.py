@@ -36,6 +36,20 @@ class NotRight(Refusal):
         Refusal.__init__(self, [-2])
 
 
+class NoOutcome(Refusal):
+    """What is asked for is none of the outcomes that there may be."""
+
+    def __init__(self):
+        Refusal.__init__(self, [-2])
+
+
+class NoSide(Refusal):
+    """There is no such side."""
+
+    def __init__(self):
+        Refusal.__init__(self, [-2])
+
+
 class NotKnown(Refusal):
     """A position's value is not known yet."""
 
@@ -48,6 +62,20 @@ class NotSolved(Refusal):
 
     def __init__(self):
         Refusal.__init__(self, [-3])
+
+
+class NotFound(Refusal):
+    """No position has the value that is asked for."""
+
+    def __init__(self):
+        Refusal.__init__(self, [-1])
+
+
+class OtherLength(Refusal):
+    """A table has another count of bytes than that of the game."""
+
+    def __init__(self):
+        Refusal.__init__(self, [-1])
 
 
 class NoMove(Refusal):

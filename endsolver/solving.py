@@ -1,7 +1,7 @@
 """The values of a game's positions, worked out from the ends backwards, round by round."""
 
 from endsolver.moving import DRAW, LOSS, WIN, end_outcome, moves_of, row_after
-from endsolver.positions import is_right, number_of, row_of
+from endsolver.positions import number_of, right_numbers, row_of
 from endsolver.refusals import NotKnown, NotSolved
 
 
@@ -44,15 +44,14 @@ def find_ends(solving):
     """The wins and losses at their end; where the others lead is kept for the rounds to come."""
     game = solving.game
     found = {}
-    for number in range(game.total):
+    for number in right_numbers(game):
         row = row_of(game, number)
-        if is_right(game, row):
-            moves = moves_of(game, row)
-            outcome = end_outcome(game, row) if len(moves) == 0 else DRAW
-            if outcome != DRAW:
-                found[number] = outcome
-            elif len(moves) > 0:
-                solving.leads[number] = [number_of(game, row_after(row, move)) for move in moves]
+        moves = moves_of(game, row)
+        outcome = end_outcome(game, row) if len(moves) == 0 else DRAW
+        if outcome != DRAW:
+            found[number] = outcome
+        elif len(moves) > 0:
+            solving.leads[number] = [number_of(game, row_after(row, move)) for move in moves]
     return found
 
 
@@ -80,7 +79,11 @@ def outcome_by_leads(known, leads):
 
 def value_of(solving, row):
     """The outcome of a right position and in how many moves, if it is known."""
-    number = number_of(solving.game, row)
+    return value_at(solving, number_of(solving.game, row))
+
+
+def value_at(solving, number):
+    """The same of the right position that has this number."""
     if number in solving.known:
         return solving.known[number]
     if not solving.solved:

@@ -98,6 +98,48 @@ def line(row):
     return [9, len(row)] + list(row)
 
 
+def many(what, count=0):
+    return [10, what, count]
+
+
+def next_from(start, what, count=0):
+    return [11, start, what, count]
+
+
+def longest(what):
+    return [12, what]
+
+
+def turns():
+    return [13]
+
+
+def least(row):
+    return [14, len(row)] + list(row)
+
+
+def table():
+    return [15]
+
+
+def judge(given):
+    return [16, len(given)] + list(given)
+
+
+def match(side, most, row, replies=()):
+    return [17, side, most, len(row)] + list(row) + [len(replies)] + list(replies)
+
+
+class Untouched(list):
+    """A list that is not to be changed, not for a while either."""
+
+    def refuse(self, *given):
+        raise AssertionError("what was handed in was changed")
+
+    append = extend = insert = pop = remove = clear = sort = reverse = refuse
+    __setitem__ = __delitem__ = __iadd__ = __imul__ = refuse
+
+
 def split(given):
     """What each call gave back, out of what the list of calls gave back."""
     found = []
@@ -116,7 +158,8 @@ def ask(*calls):
     """What each of these calls gives back when they are made one behind another."""
     if len(calls) > 16:
         raise AssertionError("a list has at most 16 calls")
-    found = split(answers([number for call in calls for number in call]))
+    given = [number for call in calls for number in call]
+    found = split(answers(Untouched(given)))
     if len(found) != len(calls):
         raise AssertionError("as many answers as calls are asked")
     return found
@@ -232,6 +275,22 @@ class Rules:
                 break
             won, lost = won_now, lost_now
         return found
+
+
+def first_best(rules, values, row):
+    """The best move by the document's words."""
+    outcome, count = values[row]
+    wanted = {WIN: (LOSS, count - 1), LOSS: (WIN, count - 1), DRAW: (DRAW, 0)}[outcome]
+    return next(move for move in rules.moves(row) if values[rules.after(row, move)] == wanted)
+
+
+def table_bytes(rules, values):
+    """The table by the document's words."""
+    rows = rules.rows()
+    codes = [values[rows[number]][0] if number in rows else 3 for number in range(rules.count)]
+    codes += [0] * (-len(codes) % 4)
+    return [codes[place] + 4 * codes[place + 1] + 16 * codes[place + 2] + 64 * codes[place + 3]
+            for place in range(0, len(codes), 4)]
 
 
 class Numbers:

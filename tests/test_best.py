@@ -1,21 +1,14 @@
 """The calls best and line: promise 2, best moves keep what they promise."""
 
 from tests.helper import (
-    DRAW, GameTest, LOSS, OFF, PASS, Rules, WIN, area, ask_each, best, game, kind, king, line, made_up_games, rook,
-    solve, take,
+    DRAW, GameTest, LOSS, OFF, PASS, Rules, WIN, area, ask_each, best, first_best, game, kind, king, line,
+    made_up_games, rook, solve, take,
 )
 
 RACE = game(area(6, 1), [kind([(1, 0, 2, 1)], 0, [5])], [(0, 0)], 0, 1)
 ROOK_HUNT = game(area(3, 3), [king(), rook()], [(0, 0), (1, 0), (0, 1)], 1)
 CHASE = game(area(4, 3), [king(), rook(1, (), 1)], [(0, 0), (1, 1)], 1)
 GAMES = [RACE, ROOK_HUNT, CHASE] + made_up_games(25)
-
-
-def first_best(rules, values, row):
-    """The best move by the document's words."""
-    outcome, count = values[row]
-    wanted = {WIN: (LOSS, count - 1), LOSS: (WIN, count - 1), DRAW: (DRAW, 0)}[outcome]
-    return next(move for move in rules.moves(row) if values[rules.after(row, move)] == wanted)
 
 
 class HandWorkedTest(GameTest):
